@@ -1,5 +1,6 @@
 """The calls that change a desk: giver, away, ramps, rule, order, back, quarter."""
 
+from plantshand.answering import with_row
 from plantshand.givers import MOST_GIVERS, Giver, is_giver
 from plantshand.quarters import go_through
 from plantshand.shares import MOST_RULE, PLANT
@@ -69,7 +70,7 @@ def tell_order(desk, scope, first, end, limit):
         return [-2]
     if len(desk.orders) == MOST_ORDERS:
         return [-3]
-    desk.orders = desk.orders + [Order(scope, first, end, limit)]
+    desk.orders = desk.orders + [Order(scope, first, end, limit, desk.quarter)]
     desk.taken_back = desk.taken_back + [NOT_BACK]
     desk.in_force_for = desk.in_force_for + [0]
     desk.losses = desk.losses + [0]
@@ -91,4 +92,4 @@ def tell_quarter(desk, coming):
     if len(coming) != len(desk.givers):
         return [-1]
     shares = go_through(desk, coming)
-    return [sum(shares), len(shares)] + shares
+    return with_row(sum(shares), shares)

@@ -1,4 +1,4 @@
-"""What is said of shares: whether they are allowed, how fair they are, what they lose, at what prices."""
+"""What is said of shares: whether they are allowed, how fair they are, what they lose, what proves it."""
 
 from plantshand.shares import CLASSES, NO_LIMIT, PLANT, class_sums, fairest
 
@@ -53,3 +53,26 @@ def prices_told(givers, able, shares, limits):
         dearest = max([giver.worth for giver in short if full[kind] and giver.kind == kind], default=0)
         prices.append(max(dearest - plant_price, 0))
     return prices + [plant_price]
+
+
+def fits_worth(giver, watts, share, price):
+    """Whether a giver's share is what its worth asks for at its class's and the plant's price together."""
+    if share < watts and giver.worth > price:
+        return False
+    return share == 0 or giver.worth >= price
+
+
+def is_proof(givers, able, shares, limits, prices):
+    """Whether prices of classes 0 to 7 and the plant prove that shares lose least."""
+    if not is_allowed(givers, able, shares, limits):
+        return False
+    full = full_classes(givers, shares, limits)
+    for kind in range(CLASSES):
+        if prices[kind] != 0 and not full[kind]:
+            return False
+    if prices[PLANT] != 0 and sum(shares) != limits[PLANT]:
+        return False
+    for giver, watts, share in zip(givers, able, shares):
+        if not fits_worth(giver, watts, share, prices[giver.kind] + prices[PLANT]):
+            return False
+    return True

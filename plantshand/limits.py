@@ -1,6 +1,6 @@
 """Orders in force, the limits they set in the next quarter, and what each of them costs."""
 
-from plantshand.shares import NO_LIMIT, PLANT, CLASSES, given_in_all
+from plantshand.shares import CLASSES, NO_LIMIT, given_in_all, scope_sums
 from plantshand.state import NOT_BACK
 
 NO_ORDER = -1
@@ -12,18 +12,9 @@ def in_force(desk, number):
     return desk.taken_back[number] == NOT_BACK and order.first <= desk.quarter < order.end
 
 
-def gave_by_scope(desk):
-    """What the givers of each class, and all of them, gave together in the quarter before."""
-    sums = [0] * (CLASSES + 1)
-    for giver, watts in zip(desk.givers, desk.gave):
-        sums[giver.kind] += watts
-        sums[PLANT] += watts
-    return sums
-
-
 def brought_down(desk):
     """Of each order in force: its number, its scope, its limit as it is brought down."""
-    gave = gave_by_scope(desk)
+    gave = scope_sums(desk.givers, desk.gave)
     lows = []
     for number, order in enumerate(desk.orders):
         if in_force(desk, number):
@@ -59,3 +50,14 @@ def own_losses(desk, lows, able):
         without = given_in_all(desk.givers, able, limits_without(desk, lows, number))
         losses.append((number, without - given))
     return losses
+
+
+def binding(desk, able):
+    """The numbers of the orders in force that would have an own loss above 0."""
+    return [number for number, loss in own_losses(desk, brought_down(desk), able) if loss > 0]
+
+
+def clearing(desk, able):
+    """The numbers of the orders in force whose limit is below what their scope's givers could give together."""
+    sums = scope_sums(desk.givers, able)
+    return [number for number, scope, low in brought_down(desk) if low < sums[scope]]

@@ -1,10 +1,14 @@
-"""The calls that only ask a desk: could, limits, parts, judge, prices."""
+"""The calls that ask of the next quarter: could, limits, parts, judge, prices, proof, binds, clears."""
 
+from plantshand.answering import with_row
 from plantshand.givers import MOST_WATTS
-from plantshand.judging import judgement, loss_of, prices_told
-from plantshand.limits import limits_now
+from plantshand.judging import is_proof, judgement, loss_of, prices_told
+from plantshand.limits import binding, clearing, limits_now
 from plantshand.quarters import able_next
 from plantshand.shares import MOST_RULE, least_losing, shares_by
+
+# one of each class and the plant's
+PRICES_ASKED = 9
 
 
 def is_able(desk, row):
@@ -17,13 +21,12 @@ def ask_could(desk, coming):
     if len(coming) != len(desk.givers):
         return [-1]
     able = able_next(desk, coming)
-    return [sum(able), len(able)] + able
+    return with_row(sum(able), able)
 
 
 def ask_limits(desk):
     """Answer the call limits."""
-    limits = limits_now(desk)
-    return [0, len(limits)] + limits
+    return with_row(0, limits_now(desk))
 
 
 def ask_parts(desk, rule, able):
@@ -31,7 +34,7 @@ def ask_parts(desk, rule, able):
     if rule > MOST_RULE or not is_able(desk, able):
         return [-1]
     shares = shares_by(rule, desk.givers, able, limits_now(desk))
-    return [sum(shares), len(shares)] + shares
+    return with_row(sum(shares), shares)
 
 
 def ask_judge(desk, able, shares):
@@ -47,5 +50,27 @@ def ask_prices(desk, able):
         return [-1]
     limits = limits_now(desk)
     shares = least_losing(desk.givers, able, limits)
-    prices = prices_told(desk.givers, able, shares, limits)
-    return [loss_of(desk.givers, able, shares), len(prices)] + prices
+    return with_row(loss_of(desk.givers, able, shares), prices_told(desk.givers, able, shares, limits))
+
+
+def ask_proof(desk, able, shares, prices):
+    """Answer the call proof."""
+    if not is_able(desk, able) or len(shares) != len(able) or len(prices) != PRICES_ASKED:
+        return [-1]
+    return [int(is_proof(desk.givers, able, shares, limits_now(desk), prices))]
+
+
+def ask_binds(desk, able):
+    """Answer the call binds."""
+    if not is_able(desk, able):
+        return [-1]
+    numbers = binding(desk, able)
+    return with_row(len(numbers), numbers)
+
+
+def ask_clears(desk, able):
+    """Answer the call clears."""
+    if not is_able(desk, able):
+        return [-1]
+    numbers = clearing(desk, able)
+    return with_row(len(numbers), numbers)

@@ -15,6 +15,11 @@ def class_sums(givers, row):
     return sums
 
 
+def scope_sums(givers, row):
+    """What the givers of each class, and all of them, have together."""
+    return class_sums(givers, row) + [sum(row)]
+
+
 def under(limit, watts):
     """So many watts, or the limit, if there is one and it is less."""
     if limit == NO_LIMIT:

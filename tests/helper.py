@@ -4,6 +4,7 @@ The plain desk does what the document says by search over all shares and with fr
 in no way like the program does it, so it is for small numbers only.
 """
 
+from copy import deepcopy
 from fractions import Fraction
 from itertools import product
 from math import floor
@@ -15,6 +16,9 @@ MOST_WATTS = 10000000
 MOST_COMING = 1000000000000000
 WATT = 1000000
 NONE = -1
+NAMES = ('giver', 'away', 'ramps', 'rule', 'order', 'back', 'quarter', 'could', 'limits', 'parts', 'judge', 'prices',
+         'proof', 'lost', 'told', 'binds', 'clears', 'state', 'sums', 'passes', 'undo', 'redo', 'begin')
+SINGLES = (7, 2, 2, 1, 4, 1, 0, 0, 0, 1, 0, 0, 0, 1, 1, 0, 0, 1, 0, 2, 0, 0, 0)
 
 
 def row(numbers):
@@ -77,6 +81,51 @@ def prices(*able):
     return [11] + row(able)
 
 
+def proof(able, shares, asked):
+    return [12] + row(able) + row(shares) + row(asked)
+
+
+def lost(number):
+    return [13, number]
+
+
+def told_of(number):
+    """The call told."""
+    return [14, number]
+
+
+def binds(*able):
+    return [15] + row(able)
+
+
+def clears(*able):
+    return [16] + row(able)
+
+
+def state(number):
+    return [17, number]
+
+
+def sums():
+    return [18]
+
+
+def passes(number, micros):
+    return [19, number, micros]
+
+
+def undo():
+    return [20]
+
+
+def redo():
+    return [21]
+
+
+def begin():
+    return [22]
+
+
 def flat(calls):
     return [number for call in calls for number in call]
 
@@ -106,24 +155,46 @@ def told(number, *numbers):
     return [number] + row(numbers)
 
 
-def probes(how_many):
-    """Calls that show what a desk with so many givers holds, now and in quarters to come."""
+def looks(how_many):
+    """Calls that ask all that a desk with so many givers holds and says of its next quarter."""
     coming = [30 + number for number in range(how_many)]
     able = [40 + 3 * number for number in range(how_many)]
-    asked = [limits(), could(*coming), parts(0, *able), parts(1, *able), prices(*able), judge(able, able)]
+    held = [sums()] + [state(number) for number in range(24)] + [passes(number, 77 * WATT) for number in range(24)]
+    held += [lost(number) for number in range(32)] + [told_of(number) for number in range(32)]
+    return held + [limits(), could(*coming), parts(0, *able), parts(1, *able), prices(*able), judge(able, able),
+                   binds(*able), clears(*able), proof(able, able, [0] * 9)]
+
+
+def goings(how_many):
+    """Calls that show what comes of a desk with so many givers in quarters to come, and what it remembers."""
+    coming = [30 + number for number in range(how_many)]
     going = [quarter(*coming), limits(), quarter(*coming), could(*coming)]
     telling = [back(0), limits(), back(1), back(2), order(8, 0, BOUND, 60), quarter(*coming), giver(), limits()]
-    return asked + going + telling
+    return going + telling + [sums()] + [undo()] * 17 + [sums(), limits()]
+
+
+def probes(how_many):
+    """Calls that show all that a desk with so many givers holds, what can be undone and redone with it."""
+    return looks(how_many) + [undo(), sums(), limits(), redo(), redo(), redo()] + goings(how_many)
 
 
 def check_refused(test, before, call, number):
     """The call is answered by that number alone behind those before it, and nothing has changed."""
-    first = run(*before)
-    how_many = len([answer for answer, one in zip(first, before) if one[0] == 0 and answer[0] >= 0])
-    asked = probes(how_many)
-    refused = run(*before, call, *asked)
-    test.assertEqual(refused[len(before)], [number])
-    test.assertEqual(refused[:len(before)] + refused[len(before) + 1:], run(*before, *asked))
+    test.assertLess(number, 0)
+    check_nothing_changed(test, before, call, [number])
+
+
+def check_nothing_changed(test, before, call, answer):
+    """The call is answered like that behind those before it, and all is as if it had not come."""
+    asked = probes(how_many_givers(before))
+    heard = run(*before, call, *asked)
+    test.assertEqual(heard[len(before)], answer)
+    test.assertEqual(heard[:len(before)] + heard[len(before) + 1:], run(*before, *asked))
+
+
+def how_many_givers(before):
+    there = run(*before, *[state(number) for number in range(24)])[len(before):]
+    return len([answer for answer in there if answer[0] >= 0])
 
 
 def class_total(kinds, shares, kind):
@@ -213,9 +284,9 @@ class PlainGiver:
 
 
 class PlainOrder:
-    def __init__(self, scope, first, end, limit):
-        self.scope, self.first, self.end, self.limit = scope, first, end, limit
-        self.taken_back, self.in_force_for, self.lost = False, 0, 0
+    def __init__(self, scope, first, end, limit, came):
+        self.scope, self.first, self.end, self.limit, self.came = scope, first, end, limit, came
+        self.taken_back, self.in_force_for, self.lost = None, 0, 0
 
 
 class PlainDesk:
@@ -231,7 +302,7 @@ class PlainDesk:
         return [one.worth for one in self.givers]
 
     def in_force(self):
-        return [one for one in self.orders if not one.taken_back and one.first <= self.next_quarter < one.end]
+        return [one for one in self.orders if one.taken_back is None and one.first <= self.next_quarter < one.end]
 
     def lowered(self, one):
         gave = sum([other.gave for other in self.givers if one.scope in (8, other.kind)])
@@ -244,6 +315,11 @@ class PlainDesk:
 
     def ways(self, able, orders):
         return every_allowed(self.kinds(), able, self.bounds(orders))
+
+    def own_loss(self, one, able):
+        others = [other for other in self.in_force() if other is not one]
+        without = max([sum(way) for way in self.ways(able, others)])
+        return without - max([sum(way) for way in self.ways(able, self.in_force())])
 
     def shares(self, k, able):
         if k == 0:
@@ -291,15 +367,15 @@ class PlainDesk:
             return [-2]
         if len(self.orders) >= 32:
             return [-3]
-        self.orders.append(PlainOrder(scope, first, end, limit))
+        self.orders.append(PlainOrder(scope, first, end, limit, self.next_quarter))
         return [len(self.orders) - 1]
 
     def call_back(self, number):
         if number >= len(self.orders):
             return [-1]
-        if self.orders[number].taken_back or self.orders[number].end <= self.next_quarter:
+        if self.orders[number].taken_back is not None or self.orders[number].end <= self.next_quarter:
             return [-2]
-        self.orders[number].taken_back = True
+        self.orders[number].taken_back = self.next_quarter
         return [0]
 
     def call_quarter(self, coming):
@@ -307,10 +383,8 @@ class PlainDesk:
             return [-1]
         able = [one.could(micros) for one, micros in zip(self.givers, coming)]
         shares = self.shares(self.rule, able)
-        most = max([sum(way) for way in self.ways(able, self.in_force())])
         for one in self.in_force():
-            others = [other for other in self.in_force() if other is not one]
-            one.lost += max([sum(way) for way in self.ways(able, others)]) - most
+            one.lost += self.own_loss(one, able)
             one.in_force_for += 1
         for one, micros, share in zip(self.givers, coming, shares):
             one.runs, one.waited = one.next_step(micros)
@@ -359,14 +433,95 @@ class PlainDesk:
                 asked[kind] = max(0, max([one.worth for one in short if one.kind == kind] + [0]) - plant)
         return told(loss(self.worths(), able, shares), *asked, plant)
 
+    def call_proof(self, able, shares, asked):
+        if not self.is_able(able) or len(shares) != len(able) or len(asked) != 9:
+            return [-1]
+        return [int(proves(self.kinds(), self.worths(), able, shares, self.bounds(self.in_force()), asked))]
+
+    def call_lost(self, number):
+        if number >= len(self.orders):
+            return [-1]
+        return told(self.orders[number].lost, self.orders[number].in_force_for)
+
+    def call_told(self, number):
+        if number >= len(self.orders):
+            return [-1]
+        one = self.orders[number]
+        return told(0, one.scope, one.first, one.end, one.limit, one.came,
+                    -1 if one.taken_back is None else one.taken_back)
+
+    def call_binds(self, able):
+        if not self.is_able(able):
+            return [-1]
+        found = [self.orders.index(one) for one in self.in_force() if self.own_loss(one, able) > 0]
+        return told(len(found), *found)
+
+    def call_clears(self, able):
+        if not self.is_able(able):
+            return [-1]
+        found = []
+        for number, one in enumerate(self.orders):
+            together = sum([watts for kind, watts in zip(self.kinds(), able) if one.scope in (8, kind)])
+            if one in self.in_force() and self.lowered(one) < together:
+                found.append(number)
+        return told(len(found), *found)
+
+    def call_state(self, number):
+        if number >= len(self.givers):
+            return [-1]
+        one = self.givers[number]
+        return told(int(one.runs), one.waited, one.gave, one.gave_ever, int(one.absent))
+
+    def call_sums(self):
+        gave = sum([one.gave_ever for one in self.givers])
+        return told(self.next_quarter, self.could_ever, gave, self.could_ever - gave)
+
+    def call_passes(self, number, micros):
+        if number >= len(self.givers):
+            return [-1]
+        return [self.givers[number].passes(micros)]
+
     def answer(self, call):
-        """The answer to a call written as the functions above write it."""
-        names = ('giver', 'away', 'ramps', 'rule', 'order', 'back', 'quarter', 'could', 'limits', 'parts', 'judge',
-                 'prices')
-        singles = (7, 2, 2, 1, 4, 1, 0, 0, 0, 1, 0, 0)[call[0]]
+        """The answer to a call written as the functions above write it, other than undo, redo, begin."""
+        singles = SINGLES[call[0]]
         handed = list(call[1:1 + singles])
         at = 1 + singles
         while at < len(call):
             handed.append(list(call[at + 1:at + 1 + call[at]]))
             at += 1 + call[at]
-        return getattr(self, 'call_' + names[call[0]])(*handed)
+        return getattr(self, 'call_' + NAMES[call[0]])(*handed)
+
+
+class PlainLine:
+    """A plain desk that remembers: all desks that there have been since begin, and which of them is there now."""
+
+    def __init__(self):
+        self.desks, self.here, self.forgotten = [PlainDesk()], 0, 0
+
+    @property
+    def desk(self):
+        return self.desks[self.here]
+
+    def answer(self, call):
+        name = NAMES[call[0]]
+        if name == 'undo':
+            if self.here == self.forgotten:
+                return [-2]
+            self.here -= 1
+        elif name == 'redo':
+            if self.here == len(self.desks) - 1:
+                return [-2]
+            self.here += 1
+        elif name == 'begin':
+            self.desks, self.here, self.forgotten = [PlainDesk()], 0, 0
+        elif name in ('giver', 'away', 'ramps', 'rule', 'order', 'back', 'quarter'):
+            changed = deepcopy(self.desk)
+            answer = changed.answer(call)
+            if answer[0] >= 0:
+                self.desks = self.desks[:self.here + 1] + [changed]
+                self.here += 1
+                self.forgotten = max(self.forgotten, self.here - 16)
+            return answer
+        else:
+            return self.desk.answer(call)
+        return [0]

@@ -5,15 +5,18 @@ import unittest
 from time import perf_counter
 
 import plantshand.desk
-from plantshand.desk import FORMS, CallNotThere, answers
-from tests.helper import (BOUND, MOST_COMING, MOST_WATTS, away, back, could, flat, giver, judge, limits, order, parts,
-                          prices, quarter, quarter_micros, ramps, row, rule, run)
+from plantshand.desk import FORMS, answers
+from tests.helper import (BOUND, MOST_COMING, MOST_WATTS, away, back, begin, binds, clears, could, flat, giver, judge,
+                          limits, lost, order, parts, passes, prices, proof, quarter, quarter_micros, ramps, redo, row,
+                          rule, run, state, sums, told_of, undo)
 
 SOON = 10
 
 EACH = [giver(table=(0, 0, 100, 7)), giver(kind=1, worth=3), away(1, 1), away(1, 0), ramps(90, 30), rule(1),
         order(1, 0, 5, 8), quarter(50, 40), could(50, 40), limits(), parts(0, 50, 40), parts(1, 50, 40),
-        judge([50, 40], [50, 8]), prices(50, 40), back(0), quarter(50, 40), away(9, 9)]
+        judge([50, 40], [50, 8]), prices(50, 40), proof([50, 40], [50, 8], [0] * 9), lost(0), told_of(0),
+        binds(50, 40), clears(50, 40), state(0), sums(), passes(0, 50000000), undo(), redo(), back(0), quarter(50, 40),
+        away(9, 9), state(1), undo(), sums(), begin(), undo(), redo(), sums(), giver()]
 
 
 def greatest():
@@ -57,6 +60,51 @@ class Form(unittest.TestCase):
                 1, -2]
         self.assertEqual(answers(calls), told)
 
+    def test_each_later_call_as_it_stands(self):
+        calls = [0, 2, 100, 0, 0, 1, 100, 5, 2, 0, 0,
+                 4, 8, 0, 9, 30,
+                 6, 1, 50000000,
+                 12, 1, 70, 1, 30, 9, 0, 0, 0, 0, 0, 0, 0, 0, 5,
+                 12, 1, 70, 1, 30, 9, 0, 0, 0, 0, 0, 0, 0, 0, 4,
+                 13, 0,
+                 14, 0,
+                 15, 1, 70,
+                 16, 1, 30,
+                 17, 0,
+                 18,
+                 19, 0, 60000000,
+                 5, 0,
+                 14, 0,
+                 20,
+                 14, 0,
+                 21,
+                 21,
+                 22,
+                 20,
+                 18]
+        told = [1, 0,
+                1, 0,
+                3, 30, 1, 30,
+                1, 1,
+                1, 0,
+                3, 20, 1, 1,
+                8, 0, 6, 8, 0, 9, 30, 0, -1,
+                3, 1, 1, 0,
+                2, 0, 0,
+                6, 1, 4, 0, 30, 30, 0,
+                5, 1, 3, 50, 30, 20,
+                1, 60,
+                1, 0,
+                8, 0, 6, 8, 0, 9, 30, 0, 1,
+                1, 0,
+                8, 0, 6, 8, 0, 9, 30, 0, -1,
+                1, 0,
+                1, -2,
+                1, 0,
+                1, -2,
+                5, 0, 3, 0, 0, 0]
+        self.assertEqual(answers(calls), told)
+
     def test_rows_of_no_numbers(self):
         self.assertEqual(answers([6, 0, 7, 0, 9, 0, 0, 10, 0, 0, 11, 0]),
                          [2, 0, 0, 2, 0, 0, 2, 0, 0, 1, 3, 11, 0, 9, 0, 0, 0, 0, 0, 0, 0, 0, 0])
@@ -64,6 +112,8 @@ class Form(unittest.TestCase):
     def test_a_refusal_is_its_number_alone(self):
         self.assertEqual(answers([0, 8, 0, 0, 0, 1, 0, 0, 0, 6, 1, 5, 5, 0, 3, 2, 1, 0, 1]),
                          [1, -1, 1, -1, 1, -1, 1, -1, 1, -2])
+        self.assertEqual(answers([12, 0, 0, 0, 13, 0, 14, 0, 15, 1, 0, 16, 1, 0, 17, 0, 19, 0, 0, 20, 21]),
+                         [1, -1] * 7 + [1, -2] * 2)
 
     def test_a_long_row_is_gone_over(self):
         self.assertEqual(answers([6] + row([7] * 19000) + [3, 1, 10, 0] + row([8] * 900) + [8]),
@@ -86,10 +136,18 @@ class Forms(unittest.TestCase):
     def test_all_23(self):
         self.assertEqual(list(FORMS), list(self.ROWS.values()))
 
-    def test_those_that_are_not_there_yet(self):
-        for number in range(12, 23):
-            with self.assertRaises(CallNotThere):
-                answers([number] + [0] * 5)
+    def test_each_takes_just_its_own_numbers(self):
+        for number, (singles, rows) in enumerate(FORMS):
+            with self.subTest(call=number):
+                call = [number] + [BOUND] * singles + [2, 0, 7] * rows
+                self.assertEqual(answers(call + [18]), answers(call) + [5, 0, 3, 0, 0, 0])
+
+    def test_none_raises_an_error(self):
+        for number, (singles, rows) in enumerate(FORMS):
+            for single in (0, 1, BOUND):
+                for length in (0, 1, 2, 9, 24):
+                    told = answers(flat(EACH[:8]) + [number] + [single] * singles + ([length] + [3] * length) * rows)
+                    self.assertEqual({type(one) for one in told}, {int})
 
 
 class NothingKept(unittest.TestCase):
@@ -146,6 +204,32 @@ class Soon(unittest.TestCase):
         able = [MOST_WATTS - number for number in range(24)]
         self.check_soon(greatest() + [parts(0, *able), parts(1, *able), prices(*able), limits()] * 86)
 
+    def test_proofs_binds_and_clears(self):
+        able = [MOST_WATTS - number for number in range(24)]
+        asked = [proof(able, able, [BOUND] * 9), binds(*able), clears(*able), binds(*able)]
+        self.check_soon(greatest() + asked * 86)
+
+    def test_records(self):
+        asked = [lost(31), told_of(31), state(23), sums(), passes(23, MOST_COMING)]
+        self.check_soon(greatest() + [quarter_micros(*[MOST_COMING] * 24)] * 4 + asked * 68)
+
+    def test_undo_and_redo(self):
+        going = [quarter_micros(*[MOST_COMING] * 24)] * 20
+        self.check_soon(greatest() + going + ([undo()] * 16 + [redo()] * 16) * 10)
+        self.check_soon(greatest() + [undo(), redo(), quarter_micros(*[MOST_COMING] * 24)] * 114)
+
+    def test_all_sorts_by_turns(self):
+        able = [MOST_WATTS - number for number in range(24)]
+        coming = [MOST_COMING - number for number in range(24)]
+        asked = [ramps(BOUND, 0), quarter_micros(*coming), undo(), redo(), binds(*able), clears(*able), lost(0),
+                 told_of(0), state(0), sums(), passes(0, MOST_COMING), limits(), judge(able, able), rule(1),
+                 away(0, 1), away(0, 0), proof(able, able, [0] * 9)]
+        self.check_soon(greatest() + asked * 20)
+
+    def test_one_that_begins_again_and_again(self):
+        self.check_soon([begin()] * 400)
+        self.check_soon((greatest() + [begin()]) * 5)
+
     def test_20000_numbers(self):
         filling = greatest() + [quarter_micros(*[MOST_COMING] * 24)] * 343
         left = 20000 - len(flat(filling))
@@ -156,6 +240,10 @@ class Soon(unittest.TestCase):
         self.assertEqual(self.check_soon([could(*[1] * 19998)]), [1, -1])
         self.assertEqual(self.check_soon([giver(table=[1] * 19991)]), [1, -2])
         self.assertEqual(self.check_soon([parts(0, *[BOUND] * 19997)]), [1, -1])
+        self.assertEqual(self.check_soon([proof([1] * 6665, [1] * 6665, [1] * 6665)]), [1, -1])
+        self.assertEqual(self.check_soon([proof([], [], [1] * 19996)]), [1, -1])
+        self.assertEqual(self.check_soon([binds(*[1] * 19998)]), [1, -1])
+        self.assertEqual(self.check_soon([clears(*[1] * 19998)]), [1, -1])
 
 
 if __name__ == '__main__':

@@ -1,12 +1,11 @@
-"""Lists of calls made by chance (always the same ones): against a plain desk, and promises 1, 2, 3 and 5 by quarter."""
+"""Lists of calls made by chance (always the same ones): against a plain desk, and the promises by quarter."""
 
 import unittest
 from random import Random
 
-from plantshand.changes import tell_away, tell_back, tell_giver, tell_order, tell_quarter, tell_ramps, tell_rule
-from plantshand.state import Desk
-from tests.helper import (BOUND, MOST_WATTS, WATT, PlainDesk, allowed, away, back, could, could_micros, flat, giver,
-                          judge, limits, loss, order, parts, prices, proves, quarter, quarter_micros, ramps, rule, run)
+from tests.helper import (BOUND, MOST_WATTS, WATT, PlainLine, allowed, away, back, begin, binds, clears, could,
+                          could_micros, flat, giver, judge, limits, loss, lost, order, parts, passes, prices, proof,
+                          proves, quarter, quarter_micros, ramps, redo, rule, run, state, sums, told_of, undo)
 
 
 def chance_giver(random):
@@ -32,11 +31,10 @@ def chance_able(random, how_many):
     return [random.randrange(5) for number in range(how_many)] + [1] * (random.random() < 0.05)
 
 
-def chance_call(random, how_many):
-    """A call on a desk with so many givers; most are taken."""
-    able = chance_able(random, how_many)
-    coming = chance_coming(random, how_many)
+def chance_change(random, how_many):
+    """A call that changes a desk with so many givers; most are taken."""
     first = random.randrange(12)
+    coming = chance_coming(random, how_many)
     return random.choice([
         away(random.randrange(how_many + 1), random.choice((0, 0, 1, 1, 2))),
         ramps(random.choice((0, 1, 3, 6, BOUND)), random.choice((0, 1, 2, 5, BOUND))),
@@ -44,48 +42,78 @@ def chance_call(random, how_many):
         order(random.choice((0, 1, 2, 7, 8, 8, 9)), first, first + random.randrange(9), random.randrange(9)),
         order(random.choice((0, 1, 8)), 0, 40, random.randrange(9)),
         back(random.randrange(6)),
-        could_micros(*coming), limits(), parts(random.choice((0, 0, 1, 2)), *able), prices(*able),
-        judge(able, [random.randrange(watts + 1) for watts in able]),
         quarter_micros(*coming), quarter_micros(*coming), quarter_micros(*coming), quarter_micros(*coming)])
 
 
-def chance_list(random):
+def chance_proof(random, desk, able):
+    """Shares and prices, often those told, now and then with one number changed."""
+    if not desk.is_able(able):
+        return proof(able, able, [0] * 9)
+    shares, asked = desk.shares(1, able), desk.call_prices(able)[2:]
+    for numbers in (shares, asked):
+        if numbers and random.random() < 0.3:
+            at = random.randrange(len(numbers))
+            numbers[at] = max(numbers[at] + random.choice((-1, 1)), 0)
+    return proof(able, shares, asked + [0] * (random.random() < 0.05))
+
+
+def chance_question(random, desk):
+    """A call that asks a desk; most are answered."""
+    how_many = len(desk.givers)
+    able = chance_able(random, how_many)
+    coming = chance_coming(random, how_many)
+    return random.choice([
+        could_micros(*coming), limits(), parts(random.choice((0, 0, 1, 2)), *able), prices(*able),
+        judge(able, [random.randrange(watts + 1) for watts in able]), chance_proof(random, desk, able),
+        lost(random.randrange(5)), told_of(random.randrange(5)), binds(*able), clears(*able),
+        state(random.randrange(how_many + 1)), sums(), passes(random.randrange(how_many + 1), random.randrange(12 * WATT))])
+
+
+def chance_list(random, length, turns):
+    """A list of calls and the plain desk's answers; turns is how often one of them is undo or redo."""
     calls = []
-    plain = PlainDesk()
+    plain = PlainLine()
     expected = []
-    for number in range(40):
-        how_many = len(plain.givers)
-        if how_many < 4 and (number < 3 or random.random() < 0.05):
+    for number in range(length):
+        how_many = len(plain.desk.givers)
+        chance = random.random()
+        if chance < turns:
+            call = random.choice((undo(), undo(), redo()))
+        elif chance < turns + 0.003:
+            call = begin()
+        elif how_many < 2 or how_many < 4 and random.random() < 0.05:
             call = chance_giver(random)
+        elif random.random() < 0.5:
+            call = chance_change(random, how_many)
         else:
-            call = chance_call(random, how_many)
+            call = chance_question(random, plain.desk)
         calls.append(call)
         expected.append(plain.answer(call))
-    return calls, expected, plain
-
-
-TELL = {0: lambda desk, call: tell_giver(desk, call[1:8], call[9:]), 1: lambda desk, call: tell_away(desk, *call[1:]),
-        2: lambda desk, call: tell_ramps(desk, *call[1:]), 3: lambda desk, call: tell_rule(desk, *call[1:]),
-        4: lambda desk, call: tell_order(desk, *call[1:]), 5: lambda desk, call: tell_back(desk, *call[1:]),
-        6: lambda desk, call: tell_quarter(desk, call[2:])}
+    return calls, expected
 
 
 class AgainstPlainDesk(unittest.TestCase):
-    def test_answers_and_what_is_counted(self):
-        random = Random(1)
-        for case in range(500):
-            calls, expected, plain = chance_list(random)
+    """All 23 sorts of calls by turns."""
+
+    def check_lists(self, seed, how_many, length, turns):
+        random = Random(seed)
+        heard = {}
+        for case in range(how_many):
+            calls, expected = chance_list(random, length, turns)
             self.assertEqual(run(*calls), expected, flat(calls))
-            desk = Desk()
-            for call in calls:
-                if call[0] in TELL:
-                    TELL[call[0]](desk, call)
-            self.assertEqual(desk.losses, [one.lost for one in plain.orders], flat(calls))
-            self.assertEqual(desk.in_force_for, [one.in_force_for for one in plain.orders], flat(calls))
-            self.assertEqual(desk.runs, [one.runs for one in plain.givers], flat(calls))
-            self.assertEqual(desk.waited, [one.waited for one in plain.givers], flat(calls))
-            self.assertEqual(desk.could_ever, plain.could_ever)
-            self.assertEqual(desk.gave_ever, [one.gave_ever for one in plain.givers])
+            for call, answer in zip(calls, expected):
+                heard[call[0], answer[0] < 0] = True
+        return heard
+
+    def test_short_lists(self):
+        heard = self.check_lists(1, 500, 40, 0.1)
+        self.assertEqual({call for call, refused in heard if not refused}, set(range(23)))
+        never = {2, 8, 18, 22}
+        self.assertEqual({call for call, refused in heard if refused}, set(range(23)) - never)
+
+    def test_long_lists(self):
+        self.check_lists(2, 20, 400, 0.1)
+        self.check_lists(3, 20, 400, 0.5)
 
 
 class EachQuarter(unittest.TestCase):
@@ -135,6 +163,34 @@ class EachQuarter(unittest.TestCase):
                 within = [one for one in range(24) if scope in (8, givers[one][1])]
                 lowered = max(limit, sum([before[one] for one in within]) - down)
                 self.assertLessEqual(sum([gone[one] for one in within]), lowered)
+
+
+class OrderByOrder(unittest.TestCase):
+    """Promise 5: an order's own loss is what would be given more if it were taken back now."""
+
+    def test_own_losses(self):
+        random = Random(4)
+        seen = 0
+        for case in range(12):
+            calls = [giver(random.randrange(4), 1000, worth=random.randrange(9)) for number in range(24)]
+            calls += [ramps(random.choice((4000, BOUND)), random.choice((0, 500, BOUND))), rule(case % 2)]
+            calls += [order(random.choice((0, 1, 2, 3, 8)), first, first + random.randrange(1, 6),
+                            random.randrange(500, 9000)) for first in [random.randrange(5) for number in range(12)]]
+            counted = [(0, 0)] * 12
+            for number in range(6):
+                able = [random.randrange(1000) for one in range(24)]
+                given = run(*calls, parts(0, *able))[-1][0]
+                more = [run(*calls, back(one), parts(0, *able))[-1][0] - given for one in range(12)]
+                self.assertEqual(run(*calls, binds(*able))[-1][2:], [one for one in range(12) if more[one] > 0])
+                first_ends = [answer[3:5] for answer in run(*calls, *[told_of(one) for one in range(12)])[-12:]]
+                calls.append(quarter(*able))
+                after = [(answer[0], answer[2]) for answer in run(*calls, *[lost(one) for one in range(12)])[-12:]]
+                for one, (first, end) in enumerate(first_ends):
+                    expected = (counted[one][0] + more[one], counted[one][1] + (first <= number < end))
+                    self.assertEqual(after[one], expected)
+                    seen += more[one] > 0
+                counted = after
+        self.assertGreater(seen, 40)
 
 
 if __name__ == '__main__':
